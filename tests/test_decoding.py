@@ -2,7 +2,7 @@
 
 import unittest
 
-from tests.helper import RESET, ask, code, get_call, run_call
+from tests.helper import A, C, E, L, ODD, RESET, ask, code, get_call, run_call, run_words
 
 OUTSIDE_WORDS = (0x0360, 0x03A0, 0x03C0, 0x03E0)
 INSTRUCTIONS = (
@@ -38,6 +38,44 @@ class Decoding(unittest.TestCase):
 
     def test_4000_on(self):
         self.check(list(range(0x4000, 0x10000, 13)) + [0xFFFF])
+
+
+class Borders(unittest.TestCase):
+    """The first and the last word of each group do what their group does."""
+
+    def test_0400_and_077f(self):
+        got = run_words([0x0400], regs={0: 0x0340, 1: 0x0380})
+        self.assertEqual((got.w, got.p, got.reg(13)), (0x0340, 0x0380, 0x0200))
+        got = run_words([0x077F], regs={15: 0x0300}, places={0x0300: 0xFFFF})
+        self.assertEqual((got.word(0x0300), got.reg(15), got.status), (1, 0x0302, L))
+
+    def test_0800_and_0bff(self):
+        got = run_words([0x0800], regs={0: 0x8004})
+        self.assertEqual((got.reg(0), got.status), (0xF800, L))
+        got = run_words([0x0BFF], regs={15: 0x4001})
+        self.assertEqual((got.reg(15), got.status), (0x8002, L | C))
+
+    def test_1000_and_1cff(self):
+        self.assertEqual(run_words([0x1000]).p, 0x0102)
+        self.assertEqual(run_words([0x1CFF], status=ODD).p, 0x0100)
+
+    def test_2000_and_2fff(self):
+        got = run_words([0x2000])
+        self.assertEqual((got.status, got.p, got.changes), (E, 0x0102, []))
+        got = run_words([0x2FFF], regs={15: 0x0301}, places={0x7C: 0x0340, 0x7E: 0x0380})
+        self.assertEqual((got.w, got.p, got.reg(11), got.word(0x021E)), (0x0340, 0x0380, 0x0301, 0x0303))
+
+    def test_3800_and_3fff(self):
+        got = run_words([0x3800], regs={0: 0x0100})
+        self.assertEqual((got.reg(0), got.reg(1)), (1, 0))
+        got = run_words([0x3FFF], regs={15: 0x0300}, places={0x0300: 0x0400, 0x0220: 0x0005})
+        self.assertEqual((got.word(0x021E), got.word(0x0220)), (0x03020005 // 0x0400, 0x03020005 % 0x0400))
+
+    def test_4000_and_ffff(self):
+        got = run_words([0x4000], regs={0: 0x1234})
+        self.assertEqual((got.reg(0), got.status), (0, E))
+        got = run_words([0xFFFF], regs={15: 0x0300}, places={0x0300: 0x0106})
+        self.assertEqual((got.word(0x0300), got.reg(15), got.status), (0x0107, 0x0302, L | A | ODD))
 
 
 if __name__ == "__main__":
